@@ -1,0 +1,1 @@
+"""Trees searched by patterns with holes; holeshapes.shapes.answers is the way in."""
