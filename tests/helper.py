@@ -75,6 +75,7 @@ def ask(*calls):
     numbers = []
     for call in calls:
         numbers.extend(call)
+    assert len(calls) <= 400 and len(numbers) <= 30000, "more than may be handed in"
     parts = split(answers(numbers))
     assert len(parts) == len(calls), "not one answer for each call"
     return parts
