@@ -1,1 +1,1 @@
-"""Trees searched by patterns with holes; holeshapes.shapes.answers is the way in."""
+"""Trees searched and rewritten by patterns with holes; holeshapes.shapes.answers is the way in."""

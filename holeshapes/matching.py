@@ -17,6 +17,7 @@ class Search:
         self.tree = tree
         self.tallies = {}
         self.verdicts = {}
+        self.hopeless = {}
 
     def begin(self, node):
         """The state in which the whole pattern is still to be matched at node."""
@@ -82,30 +83,29 @@ class Search:
         spare = len(self.tree.rows[spot[1]]) - spot[2] - gap.singles
         spare -= sum([len(held[slot]) for slot in gap.known])
         if not gap.settles:
-            return self.sift(spot, gap.neighbour, list(range(spare // gap.times + 1)))
+            return self.sift(spot, gap.segment, list(range(spare // gap.times + 1)))
         if spare < 0 or spare % gap.times != 0:
             return []
         return [spare // gap.times]
 
-    def sift(self, spot, neighbour, lengths):
-        """The lengths behind which the pattern's neighbour may stand, told by a glance along the row.
+    def sift(self, spot, segment, lengths):
+        """The lengths behind which the pattern's segment may stand, told by a glance along the row.
 
         Where most lengths lead nowhere, that's far sooner done than walking on from each.
         """
-        kind = self.pattern.kinds[neighbour]
-        label = self.pattern.labels[neighbour]
-        if kind == NODE:
-            marks = self.tree.row_labels[spot[1]]
-            mark = label
-        elif kind == HOLE and label in self.pattern.slots:
-            marks = self.tree.row_likes[spot[1]]
-            mark = spot[3][self.pattern.slots[label]]
-        else:
-            return lengths
-        # A number that isn't met yet may stand for anything.
-        if mark is None:
-            return lengths
-        return [length for length in lengths if marks[spot[2] + length] == mark]
+        for ahead, item in enumerate(segment):
+            start = spot[2] + ahead
+            if self.pattern.kinds[item] == NODE:
+                marks = self.tree.row_labels[spot[1]]
+                mark = self.pattern.labels[item]
+            else:
+                marks = self.tree.row_likes[spot[1]]
+                slot = self.pattern.slots.get(self.pattern.labels[item])
+                mark = None if slot is None else spot[3][slot]
+            # A number that isn't met yet may stand for anything.
+            if mark is not None:
+                lengths = [length for length in lengths if marks[start + length] == mark]
+        return lengths
 
     def choices(self, spot):
         """The states behind the hole of kind 2 at the spot, in the order of the ways."""
@@ -135,10 +135,23 @@ class Search:
             return False
         if spot[0] == self.pattern.size:
             return True
+        if self.is_hopeless(spot):
+            return False
         for after in self.choices(spot):
             if self.matches(after):
                 return True
+        self.hopeless[(spot[0], spot[1], spot[3])] = spot[2]
         return False
+
+    def is_hopeless(self, spot):
+        """Whether the hole at the spot, begun further to the front, has led nowhere.
+
+        What it may take from here it might have taken from there too, with what is between, unless
+        its number is met again: then what it takes matters, not only where it ends.
+        """
+        if self.pattern.labels[spot[0]] in self.pattern.slots:
+            return False
+        return spot[2] >= self.hopeless.get((spot[0], spot[1], spot[3]), spot[2] + 1)
 
     def tally(self, state):
         """How many ways there are on from the state."""
@@ -156,23 +169,39 @@ class Search:
             return 1
         return sum([self.tally(after) for after in self.choices(spot)])
 
+    def matches_at(self, node):
+        """Whether there is a way at node."""
+        # Most nodes bear another label; a glance at it spares the rest.
+        if self.pattern.kinds[0] == NODE and self.pattern.labels[0] != self.tree.labels[node]:
+            return False
+        return self.matches(self.begin(node))
+
+    def has_way(self, state, way):
+        """Whether there is a way of that number on from the state."""
+        # Whether there is a first one is told sooner than how many there are.
+        return self.matches(state) if way == 0 else way < self.tally(state)
+
     def pick(self, spot, way):
         """The state behind the spot's hole in that way on from it, and that way's number on from there."""
         for after in self.choices(spot):
-            tally = self.tally(after)
-            if way < tally:
+            if self.has_way(after, way):
                 return (after, way)
-            way -= tally
+            if way > 0:
+                way -= self.tally(after)
         return None
 
-    def filling(self, node, way, hole):
-        """The first node and how many trees the pattern's node hole takes in a way that's there at node."""
-        spot = self.walk(self.begin(node), hole)
-        while spot[0] != hole:
-            picked = self.pick(spot, way)
-            way = picked[1]
-            spot = self.walk(picked[0], hole)
-        first = self.tree.node_at(spot[1], spot[2])
-        if self.pattern.kinds[hole] == HOLE:
-            return (first, 1)
-        return (first, self.pick(spot, way)[0][2] - spot[2])
+    def fillings(self, node, way):
+        """What a way that's there at node fills each number's first hole with: first node, how many trees."""
+        found = {}
+        state = self.begin(node)
+        for hole in self.pattern.holes:
+            spot = self.walk(state, hole)
+            first = self.tree.node_at(spot[1], spot[2])
+            if self.pattern.kinds[hole] == HOLE:
+                state = (hole + 1, spot[1], spot[2] + 1, self.hold(spot[3], hole, self.tree.likes[first]))
+            else:
+                picked = self.pick(spot, way)
+                state = picked[0]
+                way = picked[1]
+            found.setdefault(self.pattern.labels[hole], (first, state[2] - spot[2]))
+        return found

@@ -1,4 +1,4 @@
-"""Patterns and replacements: which are refused, and what a search has to know of a pattern."""
+"""Patterns and replacements: which are refused, what a search has to know of a pattern, how a replacement is filled."""
 
 from holeshapes.trees import Layout, is_one_tree
 
@@ -54,6 +54,14 @@ def rule_refusal(pattern, replacement):
     return 0
 
 
+def until_stretch(pattern, row):
+    """What stands in the row before its first hole of kind 2."""
+    for index, at in enumerate(row):
+        if pattern.kinds[at] == STRETCH:
+            return row[:index]
+    return row
+
+
 class Gap:
     """What bounds how many trees a hole of kind 2 can take: what stands behind it in its row."""
 
@@ -62,7 +70,7 @@ class Gap:
         row = pattern.rows[pattern.above[hole]]
         behind = row[pattern.places[hole] + 1:]
         stretches = [pattern.labels[other] for other in behind if pattern.kinds[other] == STRETCH]
-        self.neighbour = behind[0] if behind else None
+        self.segment = until_stretch(pattern, behind)
         self.singles = len(behind) - len(stretches)
         self.times = 1 + stretches.count(own)
         others = [label for label in stretches if label != own]
@@ -74,9 +82,8 @@ class Pattern(Layout):
     """A pattern, made ready for searching."""
 
     def __init__(self, numbers):
-        Layout.__init__(self, numbers[2::3])
-        self.kinds = numbers[0::3]
-        self.labels = numbers[1::3]
+        Layout.__init__(self, numbers)
+        self.holes = [at for at in range(self.size) if self.kinds[at] != NODE]
         self.firsts = {}
         self.lasts = {}
         self.slots = {}
@@ -87,10 +94,9 @@ class Pattern(Layout):
 
     def note_holes(self):
         """Only a number that is met again needs a slot in which a search holds its filling."""
-        for at, kind in enumerate(self.kinds):
-            if kind != NODE:
-                self.firsts.setdefault(self.labels[at], at)
-                self.lasts[self.labels[at]] = at
+        for hole in self.holes:
+            self.firsts.setdefault(self.labels[hole], hole)
+            self.lasts[self.labels[hole]] = hole
         for label in self.firsts:
             if self.firsts[label] != self.lasts[label]:
                 self.slots[label] = len(self.slots)
@@ -106,3 +112,23 @@ class Pattern(Layout):
             shuts.append(inside - depth)
             inside = depth + 1 if self.kinds[at] == NODE else depth
         return shuts + [inside]
+
+
+class Replacement(Layout):
+    """A replacement, made ready for being filled."""
+
+    def trees_for(self, at, fillings):
+        """How many trees stand where the replacement's node at does."""
+        return 1 if self.kinds[at] == NODE else fillings[self.labels[at]][1]
+
+    def filled(self, tree, fillings):
+        """The numbers of the replacement, its holes being what they stand for in the tree."""
+        numbers = []
+        for at, kind in enumerate(self.kinds):
+            if kind == NODE:
+                below = sum([self.trees_for(child, fillings) for child in self.rows[at]])
+                numbers.extend([NODE, self.labels[at], below])
+            else:
+                filling = fillings[self.labels[at]]
+                numbers.extend(tree.numbers_of(filling[0], filling[1]))
+        return numbers

@@ -1,15 +1,20 @@
 """The calls on a tree and its rules, handed in and answered as one list of numbers."""
 
 from holeshapes.matching import Search
-from holeshapes.patterns import Pattern, rule_refusal
-from holeshapes.trees import Tree, tree_refusal
+from holeshapes.patterns import Pattern, Replacement, rule_refusal
+from holeshapes.trees import MOST_TREE_NUMBERS, Tree, tree_refusal
 
 TREE = 1
 RULE = 2
 FIND = 3
 WAYS = 4
 FILL = 5
+APPLY = 6
+STEP = 7
+RUN = 8
+NODES = 9
 MOST_RULES = 16
+MOST_STEPS = 200
 
 
 class UnknownCall(ValueError):
@@ -26,15 +31,16 @@ class Reader:
     def has_more(self):
         return self.position < len(self.numbers)
 
+    def take_numbers(self, times):
+        start = self.position
+        self.position += times
+        return self.numbers[start:self.position]
+
     def take_number(self):
-        number = self.numbers[self.position]
-        self.position += 1
-        return number
+        return self.take_numbers(1)[0]
 
     def take_row(self):
-        start = self.position + 1
-        self.position = start + self.numbers[start - 1]
-        return self.numbers[start:self.position]
+        return self.take_numbers(self.take_number())
 
 
 class Shapes:
@@ -43,23 +49,31 @@ class Shapes:
     def __init__(self):
         self.tree = None
         self.patterns = []
+        self.replacements = []
+        self.searches = {}
+        self.seen = {}
+        self.first_rules = {}
+
+    def put_tree(self, numbers):
+        self.tree = Tree(numbers, self.seen)
         self.searches = {}
 
     def change_tree(self, numbers):
         refusal = tree_refusal(numbers)
         if refusal == 0:
-            self.tree = Tree(numbers)
-            self.searches = {}
-        return [refusal]
+            self.put_tree(numbers)
+        return refusal
 
     def add_rule(self, pattern, replacement):
         refusal = rule_refusal(pattern, replacement)
         if refusal != 0:
-            return [refusal]
+            return refusal
         if len(self.patterns) == MOST_RULES:
-            return [-3]
+            return -3
         self.patterns.append(Pattern(pattern))
-        return [len(self.patterns) - 1]
+        self.replacements.append(Replacement(replacement))
+        self.first_rules = {}
+        return len(self.patterns) - 1
 
     def search_for(self, rule):
         """The search for that rule's pattern; None if there is no such rule or no tree."""
@@ -74,7 +88,7 @@ class Shapes:
         if search is None:
             return [0]
         for node in range(start, self.tree.size):
-            if search.matches(search.begin(node)):
+            if search.matches_at(node):
                 return [1, node]
         return [0]
 
@@ -84,36 +98,105 @@ class Shapes:
             return 0
         return search.tally(search.begin(node))
 
-    def tell_filling(self, rule, node, way, number):
-        if way >= self.count_ways(rule, node):
-            return [0]
+    def has_way(self, rule, node, way):
         search = self.search_for(rule)
-        hole = search.pattern.firsts.get(number)
-        if hole is None:
+        return search is not None and node < self.tree.size and search.has_way(search.begin(node), way)
+
+    def tell_filling(self, rule, node, way, number):
+        if not self.has_way(rule, node, way):
             return [0]
-        filling = search.filling(node, way, hole)
-        return [1, filling[0], filling[1]]
+        filling = self.search_for(rule).fillings(node, way).get(number)
+        return [0] if filling is None else [1, filling[0], filling[1]]
+
+    def rewrite(self, rule, node, way):
+        """Rewrite in a way that's there; False, and nothing has changed, if the tree would be too large."""
+        fillings = self.search_for(rule).fillings(node, way)
+        filled = self.replacements[rule].filled(self.tree, fillings)
+        numbers = self.tree.numbers_with(node, filled)
+        if len(numbers) > MOST_TREE_NUMBERS:
+            return False
+        self.put_tree(numbers)
+        return True
+
+    def apply_rule(self, rule, node, way):
+        if not self.has_way(rule, node, way):
+            return 0
+        return 1 if self.rewrite(rule, node, way) else -3
+
+    def seek_rule(self, node):
+        """The first rule that matches at node; None if none does."""
+        for rule in range(len(self.patterns)):
+            if self.search_for(rule).matches_at(node):
+                return rule
+        return None
+
+    def first_rule(self, node):
+        """As seek_rule, but trees that are alike are looked at once: a step leaves most of them as they were."""
+        like = self.tree.likes[node]
+        if like not in self.first_rules:
+            self.first_rules[like] = self.seek_rule(node)
+        return self.first_rules[like]
+
+    def next_place(self):
+        """The rule and the node of the next step; None if no rule matches."""
+        if self.tree is None:
+            return None
+        for node in range(self.tree.size):
+            rule = self.first_rule(node)
+            if rule is not None:
+                return (rule, node)
+        return None
+
+    def take_step(self):
+        place = self.next_place()
+        if place is None:
+            return -1
+        return place[0] if self.rewrite(place[0], place[1], 0) else -3
+
+    def run_steps(self, most):
+        if most > MOST_STEPS:
+            return [-1]
+        for done in range(most):
+            step = self.take_step()
+            if step < 0:
+                return [done, 0 if step == -1 else 2]
+        return [most, 1]
+
+    def tell_nodes(self):
+        if self.tree is None:
+            return [0]
+        told = [self.tree.size]
+        for node in range(self.tree.size):
+            told.extend([self.tree.labels[node], len(self.tree.rows[node])])
+        return told
 
 
 def answer_call(shapes, reader):
     """Read one call, and give back the numbers that answer it."""
     call = reader.take_number()
     if call == TREE:
-        return shapes.change_tree(reader.take_row())
+        return [shapes.change_tree(reader.take_row())]
     if call == RULE:
         pattern = reader.take_row()
-        return shapes.add_rule(pattern, reader.take_row())
+        return [shapes.add_rule(pattern, reader.take_row())]
     if call == FIND:
-        rule = reader.take_number()
-        return shapes.find_node(rule, reader.take_number())
+        numbers = reader.take_numbers(2)
+        return shapes.find_node(numbers[0], numbers[1])
     if call == WAYS:
-        rule = reader.take_number()
-        return [shapes.count_ways(rule, reader.take_number())]
+        numbers = reader.take_numbers(2)
+        return [shapes.count_ways(numbers[0], numbers[1])]
     if call == FILL:
-        rule = reader.take_number()
-        node = reader.take_number()
-        way = reader.take_number()
-        return shapes.tell_filling(rule, node, way, reader.take_number())
+        numbers = reader.take_numbers(4)
+        return shapes.tell_filling(numbers[0], numbers[1], numbers[2], numbers[3])
+    if call == APPLY:
+        numbers = reader.take_numbers(3)
+        return [shapes.apply_rule(numbers[0], numbers[1], numbers[2])]
+    if call == STEP:
+        return [shapes.take_step()]
+    if call == RUN:
+        return shapes.run_steps(reader.take_number())
+    if call == NODES:
+        return shapes.tell_nodes()
     raise UnknownCall(f"no call has the number {call}")
 
 

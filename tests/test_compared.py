@@ -3,35 +3,10 @@
 import itertools
 import unittest
 
-from tests.helper import Numbered, ask, fill, find, flat, node, one, plain_ways, row, rule, tree, ways
+from tests.helper import (LEAVES, Made, Numbered, ask, fill, find, is_allowed, node, one, plain_ways, row, rule,
+                          shapes_of, tree, ways)
 
-LEAVES = [node(1), node(2)]
 HOLES = [one(1), one(3), row(2), row(4)]
-
-
-def rows_of(size, leaves):
-    """All rows of trees that have so many nodes together."""
-    if size == 0:
-        yield ()
-    for first in range(1, size + 1):
-        for shape in shapes_of(first, leaves):
-            for others in rows_of(size - first, leaves):
-                yield (shape,) + others
-
-
-def shapes_of(size, leaves):
-    """All trees of so many nodes with labels 1 and 2, whose leaves are of these."""
-    if size == 1:
-        yield from leaves
-    else:
-        for label in (1, 2):
-            for below in rows_of(size - 1, leaves):
-                yield node(label, *below)
-
-
-def is_allowed(pattern):
-    kinds = flat(pattern)[0::3]
-    return kinds[0] != 2 and kinds.count(2) <= 3
 
 
 class Compared(unittest.TestCase):
@@ -86,48 +61,3 @@ class Compared(unittest.TestCase):
         for turn in range(400):
             shape = made.shape(20)
             self.compare(shape, [made.pattern(shape) for k in range(3)])
-
-
-class Made:
-    """Shapes that look as if by chance, and are the same each time."""
-
-    def __init__(self, start):
-        self.number = start
-
-    def below(self, bound):
-        self.number = (self.number * 1103515245 + 12345) % 2147483648
-        return (self.number >> 12) % bound
-
-    def shape(self, size):
-        """A tree of at most so many nodes, with parts that are alike."""
-        parts = [node(1), node(2), node(1)]
-        while size > 0:
-            number = self.below(6)
-            taken = [parts[self.below(len(parts))] for k in range(number)]
-            parts.append(node(1 + self.below(2), *taken))
-            size -= 3
-        large = sorted(parts, key=lambda shape: len(flat(shape)))
-        fitting = [shape for shape in large if len(flat(shape)) <= 75]
-        return fitting[-1]
-
-    def pattern(self, shape):
-        """A part of the shape, with holes in it."""
-        nodes = Numbered(shape, 0).nodes()
-        inner = [numbered.shape for numbered in nodes if numbered.below]
-        self.rows_left = 3
-        while True:
-            pattern = self.with_holes(inner[self.below(len(inner))] if inner else shape, 0)
-            if len(flat(pattern)) <= 96:
-                return pattern
-
-    def with_holes(self, shape, depth):
-        if depth > 0 and self.below(3) == 0:
-            return one(self.below(3))
-        parts = []
-        for below in shape[2]:
-            if self.rows_left and self.below(2) == 0:
-                self.rows_left -= 1
-                parts.append(row(4 + self.below(3)))
-            if self.below(3) > 0:
-                parts.append(self.with_holes(below, depth + 1))
-        return node(shape[1], *parts)

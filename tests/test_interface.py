@@ -3,10 +3,12 @@
 import unittest
 
 from holeshapes.shapes import answers
-from tests.helper import ask, fill, find, node, one, row, rule, tree, ways
+from tests.helper import apply, ask, fill, find, node, nodes, one, row, rule, run, shown, step, tree, ways
 
+# All nine kinds of calls; each line of TOLD answers the same line of CALLS.
 CALLS = [
     3, 0, 0,
+    9,
     1, 9, 0, 1, 2, 0, 2, 0, 0, 3, 0,
     2, 9, 0, 1, 2, 2, 5, 0, 1, 6, 0, 3, 1, 6, 0,
     2, 3, 2, 5, 0, 3, 0, 0, 0,
@@ -17,8 +19,22 @@ CALLS = [
     5, 0, 0, 1, 6,
     1, 0,
     4, 0, 0,
+    6, 0, 0, 1,
+    7,
+    7,
+    9,
+    2, 3, 1, 8, 0, 6, 0, 4, 1, 1, 8, 0,
+    8, 3,
+    8, 201,
+    6, 1, 1, 0,
+    9,
+    1, 3, 0, 7, 0,
+    8, 0,
+    6, 1, 0, 0,
+    9,
 ]
 TOLD = [
+    1, 0,
     1, 0,
     1, 0,
     1, 0,
@@ -30,6 +46,19 @@ TOLD = [
     1, 0,
     1, -1,
     1, 1,
+    1, 0,
+    1, 0,
+    1, -1,
+    3, 1, 3, 0,
+    1, 1,
+    2, 3, 1,
+    1, -1,
+    1, 1,
+    11, 5, 4, 1, 4, 1, 4, 1, 4, 1, 3, 0,
+    1, 0,
+    2, 0, 1,
+    1, 1,
+    5, 2, 4, 1, 7, 0,
 ]
 
 
@@ -59,7 +88,7 @@ class Interface(unittest.TestCase):
 
     def test_nothing_is_kept(self):
         answers(list(CALLS))
-        self.assertEqual(ask(ways(0, 0), find(0, 0), rule(node(1))), [[0], [0], [0]])
+        self.assertEqual(ask(nodes(), ways(0, 0), find(0, 0), step(), rule(node(1))), [[0], [0], [0], [-1], [0]])
 
     def test_numbers_of_python_s_own_kind(self):
         told = answers(list(CALLS))
@@ -69,6 +98,10 @@ class Interface(unittest.TestCase):
     def test_400_calls(self):
         calls = [tree(node(1)), rule(node(1))] + [ways(0, 0), find(0, 0)] * 199
         self.assertEqual(ask(*calls), [[0], [0]] + [[1], [1, 0]] * 199)
+        calls = [tree(node(1)), rule(one(1), node(2, one(1)))] + [step(), nodes()] * 199
+        told = ask(*calls)
+        self.assertEqual(told[2::2], [[0]] * 199)
+        self.assertEqual(told[-1], [200] + [2, 1] * 199 + [1, 0])
 
 
 class NothingThereYet(unittest.TestCase):
@@ -76,6 +109,10 @@ class NothingThereYet(unittest.TestCase):
         self.assertEqual(ask(find(0, 0)), [[0]])
         self.assertEqual(ask(ways(0, 0)), [[0]])
         self.assertEqual(ask(fill(0, 0, 0, 0)), [[0]])
+        self.assertEqual(ask(apply(0, 0, 0)), [[0]])
+        self.assertEqual(ask(step()), [[-1]])
+        self.assertEqual(ask(run(1)), [[0, 0]])
+        self.assertEqual(ask(nodes()), [[0]])
 
     def test_no_tree(self):
         told = ask(rule(one(1)), find(0, 0), ways(0, 0), fill(0, 0, 0, 1))
@@ -99,3 +136,11 @@ class CallsInAnyOrder(unittest.TestCase):
         told = ask(rule(node(1, row(1), row(2))), tree(node(1, node(1))), ways(0, 0), rule(one(1)), ways(1, 0),
                    ways(0, 0), tree(node(1, node(1), node(1))), ways(0, 0), ways(1, 2), find(0, 1))
         self.assertEqual(told, [[0], [0], [2], [1], [1], [2], [0], [3], [1], [1, 1]])
+
+    def test_all_kinds_between_one_another(self):
+        told = ask(nodes(), step(), rule(node(1, row(1)), node(2, row(1), row(1))), run(2), tree(node(1, node(1))),
+                   ways(0, 1), step(), find(0, 0), rule(node(2, one(1), one(1)), one(1)), fill(1, 0, 0, 1), run(200),
+                   nodes(), tree([]), apply(1, 0, 0), apply(0, 0, 0), tree(node(1)), apply(0, 0, 0), nodes(), run(201))
+        self.assertEqual(told, [[0], [-1], [0], [0, 0], [0],
+                                [1], [0], [1, 1], [1], [1, 1, 1], [2, 0],
+                                shown(node(2)), [-1], [0], [0], [0], [1], [1, 2, 0], [-1]])

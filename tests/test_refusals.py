@@ -3,7 +3,7 @@
 import unittest
 
 from holeshapes.trees import is_one_tree
-from tests.helper import TOP, ask, chain, fill, find, flat, node, one, row, rule, tree, ways
+from tests.helper import TOP, ask, chain, fill, find, flat, node, nodes, one, row, rule, shown, tree, ways
 
 FINE = node(1, node(2), node(3))
 PATTERN = node(1, row(1), one(2))
@@ -11,7 +11,7 @@ PATTERN = node(1, row(1), one(2))
 
 def state_calls():
     """Calls whose answers show which tree and which rules there are."""
-    calls = [find(0, 0), find(1, 0)]
+    calls = [nodes(), find(0, 0), find(1, 0)]
     for i in range(4):
         calls.extend([ways(0, i), ways(1, i), fill(0, i, 0, 1), fill(0, i, 0, 2)])
     return calls
@@ -26,7 +26,7 @@ class Refused(unittest.TestCase):
         number = len(state_calls())
         self.assertEqual(told[2 + number], [refusal])
         self.assertEqual(told[2:2 + number], told[3 + number:])
-        self.assertEqual(told[2], [1, 0])
+        self.assertEqual(told[2:4], [shown(FINE), [1, 0]])
         self.assertEqual(ask(*before, call, rule(PATTERN), tree(node(2)), ways(0, 0))[2:], [[refusal], [1], [0], [0]])
 
 
