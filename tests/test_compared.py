@@ -11,18 +11,17 @@ HOLES = [one(1), one(3), row(2), row(4)]
 
 class Compared(unittest.TestCase):
     def compare(self, shape, patterns):
-        """At every node of the shape: how many ways, and what each way fills each hole with."""
+        """At every node of the shape: the next place, how many ways, and what each way fills each hole with."""
         nodes = Numbered(shape, 0).nodes()
         calls = []
         expected = []
         for k, pattern in enumerate(patterns):
             told = [plain_ways(pattern, numbered) for numbered in nodes]
             places = [i for i in range(len(nodes)) if told[i]]
-            calls.append(find(k, 0))
-            expected.append([1, places[0]] if places else [0])
             for i, found in enumerate(told):
-                calls.append(ways(k, i))
-                expected.append([len(found)])
+                later = [place for place in places if place >= i]
+                calls.extend([find(k, i), ways(k, i)])
+                expected.extend([[1, later[0]] if later else [0], [len(found)]])
                 for w, filled in enumerate(found):
                     for h in filled:
                         calls.append(fill(k, i, w, h))

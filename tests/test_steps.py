@@ -208,6 +208,23 @@ class Run(unittest.TestCase):
         self.check([tree(chain([2] + [1] * 255)), down, run(200)], 200, [55, 0], chain([1] * 255 + [2]))
 
 
+    def test_many_rules_on_a_large_tree(self):
+        wide = [node(100 + k) for k in range(45)] + [node(5)] * 45
+        failing = [
+            node(1, row(1), node(5), row(2), node(5), row(3), node(9)),
+            node(1, row(1), node(5), node(5), row(2), node(5), node(9), row(3)),
+            node(1, row(1), node(5), row(1), node(5), row(3), node(9)),
+            node(1, row(1), one(7), row(2), one(7), node(144), row(3)),
+            node(1, row(1), row(2), row(2), one(7), one(7), one(7)),
+            node(7, node(7, node(7, node(7, node(7, node(7, node(7, node(9)))))))),
+            node(7, one(1), one(2), row(3)),
+        ]
+        down = rule(node(2, node(7, row(1))), node(7, node(2, row(1))))
+        before = [tree(node(1, *wide, chain([2] + [7] * 160 + [50])))] + [rule(shape) for shape in failing * 2]
+        self.check(before + [down], 159, [159, 1], node(1, *wide, chain([7] * 159 + [2, 7, 50])))
+        self.check(before + [down], 200, [160, 0], node(1, *wide, chain([7] * 160 + [2, 50])))
+
+
 class RunIsStep(unittest.TestCase):
     worlds = [
         [tree(star(3)), rule(node(2), node(9))],
