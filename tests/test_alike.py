@@ -159,3 +159,25 @@ class FirstPlace(unittest.TestCase):
     def test_further_down_comes_first(self):
         shape = node(1, node(2, node(3)), node(3))
         self.assertEqual(fillings(shape, node(1, node(2, one(1)), one(1)), 0, [1]), [[[1, 2, 1]]])
+
+
+class LabelsLikeNumbersOfHoles(unittest.TestCase):
+    """A node's label says nothing of a hole that has the same number, also where that hole is met again."""
+
+    def test_a_node_behind_a_row(self):
+        shape = node(1, node(7), node(8), node(5), node(9), node(7))
+        pattern = node(1, one(5), row(1), node(5), row(2), one(5))
+        self.assertEqual(ways_everywhere(shape, pattern), [1, 0, 0, 0, 0, 0])
+        self.assertEqual(fillings(shape, pattern, 0, [5, 1, 2]), [[[1, 1, 1], [1, 2, 1], [1, 4, 1]]])
+
+    def test_a_row_s_number(self):
+        shape = node(1, node(4, node(7)), node(8), node(5), node(9), node(4, node(7)))
+        pattern = node(1, node(4, row(5)), row(1), node(5), one(2), node(4, row(5)))
+        self.assertEqual(ways_everywhere(shape, pattern)[0], 1)
+        self.assertEqual(fillings(shape, pattern, 0, [5, 1, 2]), [[[1, 2, 1], [1, 3, 1], [1, 5, 1]]])
+
+    def test_a_node_deeper(self):
+        shape = node(1, node(7), node(3, node(5)), node(3, node(7)), node(7))
+        pattern = node(1, one(5), row(1), node(3, node(5)), row(2), one(5))
+        self.assertEqual(ways_everywhere(shape, pattern)[0], 1)
+        self.assertEqual(fillings(shape, pattern, 0, [1, 2]), [[[1, 2, 0], [1, 4, 1]]])

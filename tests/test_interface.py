@@ -2,8 +2,8 @@
 
 import unittest
 
-from holeshapes.shapes import answers
-from tests.helper import apply, ask, fill, find, node, nodes, one, row, rule, run, shown, step, tree, ways
+from holeshapes.shapes import UnknownCall, answers
+from tests.helper import TOP, apply, ask, fill, find, node, nodes, one, row, rule, run, shown, step, tree, ways
 
 # All nine kinds of calls; each line of TOLD answers the same line of CALLS.
 CALLS = [
@@ -102,6 +102,12 @@ class Interface(unittest.TestCase):
         told = ask(*calls)
         self.assertEqual(told[2::2], [[0]] * 199)
         self.assertEqual(told[-1], [200] + [2, 1] * 199 + [1, 0])
+
+
+    def test_numbers_that_stand_for_no_call(self):
+        for call in (0, 10, 11, TOP):
+            with self.assertRaises(UnknownCall):
+                answers([call])
 
 
 class NothingThereYet(unittest.TestCase):
